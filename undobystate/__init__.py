@@ -1,0 +1,1 @@
+"""Undobystate: earlier commands undone by the present state alone."""

@@ -34,6 +34,10 @@ NO_SYSTEMS = NO_TUPLES + [
     (2, 0, ((0, 1),) * 5)]
 
 
+# In the place of a sequence of 0 to 16 commands, for whatever system has a command.
+NO_SEQUENCES = NO_TUPLES + [(True,), (False,), (None,), ("0",), ((0,),), ([0],), (-1,), (4,), (0, 4), (0,) * 17]
+
+
 class ArgumentCase(unittest.TestCase):
     """A test case that asks which argument an error names."""
 
@@ -44,6 +48,45 @@ class ArgumentCase(unittest.TestCase):
             self.assertEqual(caught.exception.name, name)
             self.assertIsInstance(caught.exception, UndoError)
             self.assertIsInstance(caught.exception, ValueError)
+
+    def assert_checked(self, function, right, wrong):
+        """Assert that each wrong argument is named, alone and with all later ones wrong too.
+
+        The wrong ones are pairs of a name and values, for the first arguments; all later ones are a judge's value.
+        """
+        function(*right)
+        for at, (name, values) in enumerate(wrong):
+            later = [some[0] for _, some in wrong[at + 1:]] + [None] * (len(right) - len(wrong))
+            for value in values:
+                self.assert_bad(name, function, *right[:at], value, *right[at + 1:])
+                self.assert_bad(name, function, *right[:at], value, *later)
+
+    def assert_refused(self, judge, value):
+        """Assert that the judge accepts the value, and refuses it with any part of it of another kind."""
+        with self.subTest(value=value):
+            self.assertIs(judge(value), True)
+        for wrong in spoiled(value):
+            with self.subTest(value=value, wrong=wrong):
+                self.assertIs(judge(wrong), False)
+
+
+def spoiled(value):
+    """Return the value with each part of it, and itself, replaced by what is of another kind or out of all bounds."""
+    wrong = [True, False, "", "0", [], [0], {}, {0: 0}, -1, 200, 10 ** 30, "closed", ("closed",), 0.5]
+    if value is not None:
+        wrong.append(None)
+    if isinstance(value, tuple):
+        wrong += [0, 1, list(value), str(value), (value,), [value], dict(enumerate(value))]
+    elif isinstance(value, str):
+        wrong += [0, 1, value + "s", value[:-1], value.upper(), value.encode(), (value,), [value], list(value)]
+    else:
+        wrong += [(), (0,), (value,), [value], str(value), "a"]
+    if isinstance(value, int):
+        wrong.append(float(value))
+    if isinstance(value, tuple):
+        for at, item in enumerate(value):
+            wrong += [value[:at] + (other,) + value[at + 1:] for other in spoiled(item)]
+    return wrong
 
 
 def small_systems():
@@ -92,3 +135,139 @@ def states_reached(system, state):
     for _ in range(system[0]):
         reached |= {row[here] for row in system[2] for here in reached}
     return reached
+
+
+def pairs_reached(system, one, other):
+    """Return the set of the pairs to which a sequence leads from both states, found without sequences."""
+    found = {(one, other)}
+    while True:
+        more = found | {(row[first], row[second]) for row in system[2] for first, second in found}
+        if more == found:
+            return found
+        found = more
+
+
+def seconds_reached(system, one, other):
+    """Return the tuple of the ascending tuples of the second states beside each first one of the pairs."""
+    found = pairs_reached(system, one, other)
+    return tuple(tuple(sorted(second for first, second in found if first == state)) for state in range(system[0]))
+
+
+def actions_in(system):
+    """Return all actions of the system, in whatever states, as triples (state, command, state after it)."""
+    return [(state, command, row[state]) for command, row in enumerate(system[2]) for state in range(system[0])]
+
+
+def first_to_pairs(system, one, other, longest):
+    """Return the dict of the first sequences to the pairs, of those with at most so many commands."""
+    first = {}
+    for sequence in sequences_by_length(system, longest):
+        first.setdefault((place_after(system, one, sequence), place_after(system, other, sequence)), sequence)
+    return first
+
+
+def first_refutation(system, one, other, longest):
+    """Return the first refutation with at most so many commands in a sequence, or None, by trying all sequences."""
+    earlier = []
+    for sequence in sequences_by_length(system, longest):
+        pair = (place_after(system, one, sequence), place_after(system, other, sequence))
+        for before, known in earlier:
+            if known[0] == pair[0] and known[1] != pair[1]:
+                return (before, sequence)
+        if pair not in [known for _, known in earlier]:
+            earlier.append((sequence, pair))
+    return None
+
+
+def longest_to_try(system):
+    """Return a number of commands up to which all sequences can be tried."""
+    return (0, 64, 7, 4, 4)[len(system[2])]
+
+
+def renamed(system, names):
+    """Return the system with the states renamed, the state k as names[k]."""
+    back = [names.index(state) for state in range(system[0])]
+    commands = tuple(tuple(names[row[state]] for state in back) for row in system[2])
+    return (system[0], names[system[1]], commands)
+
+
+def shuffled(many, number):
+    """Return the numbers below many in an order that the number tells."""
+    left = list(range(many))
+    return [left.pop((number * 7 + 3 * len(left) + number // 5) % len(left)) for _ in range(many)]
+
+
+def permutation_systems(many):
+    """Return so many systems all commands of which are one to one, the same ones each time."""
+    systems = []
+    for number in range(many):
+        states = number % 8 + 1
+        rows = [tuple(shuffled(states, number * 31 + 17 * k)) for k in range(number // 8 % 5)]
+        systems.append((states, number // 3 % states, tuple(rows)))
+    return systems
+
+
+# Permutations; what they generate has from 1 to 8 members.
+GENERATORS = [
+    (), ((0,),), ((0, 1, 2), (0, 1, 2)), ((1, 0),), ((1, 0), (0, 1), (1, 0)), ((1, 2, 0),), ((1, 2, 3, 0),),
+    ((1, 2, 3, 0), (2, 3, 0, 1)), ((1, 0, 2, 3), (0, 1, 3, 2)), ((1, 2, 3, 4, 0),), ((1, 2, 0, 4, 3),),
+    ((1, 0, 2), (0, 2, 1)), ((1, 2, 0), (1, 0, 2), (0, 1, 2), (2, 0, 1)), ((1, 2, 3, 4, 5, 6, 0),),
+    ((1, 2, 3, 4, 5, 6, 7, 0),), ((1, 2, 3, 0), (0, 3, 2, 1)),
+    ((1, 0, 2, 3, 4, 5), (0, 1, 3, 2, 4, 5), (0, 1, 2, 3, 5, 4)),
+    ((1, 2, 3, 0, 4, 5), (0, 1, 2, 3, 5, 4)), ((1, 2, 3, 0, 5, 6, 7, 4), (4, 7, 6, 5, 2, 1, 0, 3))]
+
+
+def group_system(generators):
+    """Return the system whose states are the permutations that come of the generators, in the order of the tuples."""
+    members = {tuple(range(len(generators[0]))) if generators else (0,)}
+    while True:
+        more = members | {tuple(row[k] for k in member) for row in generators for member in members}
+        if more == members:
+            break
+        members = more
+    order = sorted(members)
+    commands = tuple(tuple(order.index(tuple(row[k] for k in member)) for member in order) for row in generators)
+    return (len(order), 0, commands)
+
+
+def with_more_states(system, number):
+    """Return the system with as many states that are not reachable as it can have, which are led anywhere."""
+    rows = []
+    for k, row in enumerate(system[2]):
+        rows.append(row + tuple((number * 5 + state * 3 + k) % 8 for state in range(system[0], 8)))
+    return (8, system[1], tuple(rows))
+
+
+def regular_systems():
+    """Return systems all actions of which in reachable states are revocable: of groups of 1 to 8 members."""
+    systems = []
+    for number, generators in enumerate(GENERATORS):
+        system = group_system(generators)
+        names = shuffled(system[0], number)
+        systems += [system, renamed(system, names)]
+        wide = with_more_states(system, number)
+        systems += [wide, renamed(wide, shuffled(8, number + 3))]
+    return systems
+
+
+def effects_reached(system, most):
+    """Return the list of the first sequences of the effects, in order, or None if more than so many effects come."""
+    chosen = sorted(states_reached(system, system[1]))
+    told = [()]
+    known = [tuple(chosen)]
+    at = 0
+    while at < len(told):
+        for command in range(len(system[2])):
+            effect = tuple(system[2][command][state] for state in known[at])
+            if effect not in known:
+                known.append(effect)
+                told.append(told[at] + (command,))
+        if len(known) > most:
+            return None
+        at += 1
+    return told
+
+
+def taken_out(system, command):
+    """Return the system without the command."""
+    return (system[0], system[1], system[2][:command] + system[2][command + 1:])

@@ -3,21 +3,27 @@
 Evidence is ("path", sequence) or ("closed", chosen).
 """
 
-from undobystate.systems import after, check_state, check_system, follow, is_index_tuple, is_sequence_within
+from undobystate.errors import BadValue
+from undobystate.systems import all_after, check_state, check_system, follow, has_word, is_index_tuple
+from undobystate.systems import is_sequence_within, is_state
 
 MOST_IN_PATH = 100
 
 
-def sequences_from(system, state):
-    """Return a dict that gives each state that is reached the first sequence to it."""
-    found = {state: ()}
-    level = [state]
-    # A level is in the order of its sequences, so what finds a state first is its first sequence.
-    while level:
+def tuples_from(system, states, most):
+    """Return a dict that gives each tuple of states to which a sequence leads from the states the first such sequence.
+
+    The tuples are in the order of these sequences. All of them are found, unless there are more than most; then perhaps
+    only some, but more than most.
+    """
+    found = {states: ()}
+    level = [states]
+    # A level is in the order of its sequences, so what finds a tuple first is its first sequence.
+    while level and len(found) <= most:
         behind = []
         for here in level:
-            for command in range(len(system[2])):
-                there = after(system, here, command)
+            for command, row in enumerate(system[2]):
+                there = all_after(row, here)
                 if there not in found:
                     found[there] = found[here] + (command,)
                     behind.append(there)
@@ -25,9 +31,26 @@ def sequences_from(system, state):
     return found
 
 
+def sequences_from(system, state):
+    """Return a dict that gives each state that is reached the first sequence to it."""
+    found = tuples_from(system, (state,), system[0])
+    return {states[0]: found[states] for states in found}
+
+
 def reached_from(system, state):
     """Return the ascending tuple of the states that the state reaches."""
     return tuple(sorted(sequences_from(system, state)))
+
+
+def is_reachable(system, value):
+    """Tell whether the value is a reachable state."""
+    return is_state(system, value) and value in reached_from(system, system[1])
+
+
+def check_reachable(system, value, name):
+    """Raise BadValue with the name of the argument if it is not a reachable state."""
+    if not is_reachable(system, value):
+        raise BadValue(name)
 
 
 def reachable(system):
@@ -79,11 +102,6 @@ def accepts_reach(system, state, target, value):
     check_system(system)
     check_state(system, state, "state")
     check_state(system, target, "target")
-    if not isinstance(value, tuple) or len(value) != 2:
-        return False
-    word, shown = value
-    if not isinstance(word, str):
-        return False
-    if word == "path":
-        return shows_reach(system, state, target, shown)
-    return word == "closed" and shows_no_reach(system, state, target, shown)
+    if has_word(value, "path", 2):
+        return shows_reach(system, state, target, value[1])
+    return has_word(value, "closed", 2) and shows_no_reach(system, state, target, value[1])

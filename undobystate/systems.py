@@ -26,6 +26,16 @@ def is_index_tuple(value, many):
     return isinstance(value, tuple) and all(is_index(item, many) for item in value)
 
 
+def is_tuple_of(value, many):
+    """Tell whether the value is a tuple of so many items."""
+    return isinstance(value, tuple) and len(value) == many
+
+
+def has_word(value, word, many):
+    """Tell whether the value is a tuple of so many items, the word the first one."""
+    return is_tuple_of(value, many) and isinstance(value[0], str) and value[0] == word
+
+
 def is_command_row(value, states):
     """Tell whether the value is a command of a system with so many states."""
     return is_index_tuple(value, states) and len(value) == states
@@ -33,7 +43,7 @@ def is_command_row(value, states):
 
 def is_system(value):
     """Tell whether the value is a system."""
-    if not isinstance(value, tuple) or len(value) != 3:
+    if not is_tuple_of(value, 3):
         return False
     states, start, commands = value
     if not is_integer(states) or not 1 <= states <= MOST_STATES:
@@ -77,15 +87,33 @@ def check_state(system, value, name):
         raise BadValue(name)
 
 
+def check_command(system, value, name):
+    """Raise BadValue with the name of the argument if it is not the number of a command."""
+    if not is_command(system, value):
+        raise BadValue(name)
+
+
 def check_sequence(system, value, name):
     """Raise BadValue with the name of the argument if it is not a sequence."""
     if not is_sequence(system, value):
         raise BadValue(name)
 
 
+def check_action(system, state, command):
+    """Raise BadValue with the name of the first argument that is wrong for an action."""
+    check_system(system)
+    check_state(system, state, "state")
+    check_command(system, command, "command")
+
+
 def after(system, state, command):
     """Return the state to which the command leads."""
     return system[2][command][state]
+
+
+def all_after(row, states):
+    """Return the tuple of the states to which the command with this row leads from the states."""
+    return tuple([row[state] for state in states])
 
 
 def follow(system, state, sequence):

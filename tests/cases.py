@@ -16,6 +16,19 @@ CARDS = (6, 0, ((1, 0, 4, 5, 2, 3), (2, 3, 0, 1, 5, 4)))
 LADDER = (8, 0, ((1, 2, 3, 4, 5, 6, 7, 7),))
 RING = (3, 0, ((1, 2, 0),))
 ALONE = (1, 0, ())
+STOP = (3, 0, ((1, 1, 1), (2, 2, 2)))
+
+# All permutations of five states are effects, 120 of them.
+FIVE = (5, 0, ((1, 2, 3, 4, 0), (1, 0, 2, 3, 4)))
+
+# Five effects more, each of which leads from every state to one.
+MORE = (5, 0, (*FIVE[2], (0, 0, 0, 0, 0)))
+
+# All permutations of six states: 720.
+SIX = (6, 0, ((1, 2, 3, 4, 5, 0), (1, 0, 2, 3, 4, 5)))
+
+# Every map of eight states to themselves is an effect, more than 16 million.
+ALL_MAPS = (8, 0, ((1, 2, 3, 4, 5, 6, 7, 0), (1, 0, 2, 3, 4, 5, 6, 7), (0, 0, 2, 3, 4, 5, 6, 7)))
 
 # As large as a system can be.
 WIDEST = (8, 7, (tuple(range(8)), (0,) * 8, (7, 6, 5, 4, 3, 2, 1, 0), (1, 2, 3, 4, 5, 6, 7, 0)))
@@ -137,6 +150,16 @@ def states_reached(system, state):
     return reached
 
 
+def chosen_in(system):
+    """Return the ascending list of the reachable states."""
+    return sorted(states_reached(system, system[1]))
+
+
+def effect_of(system, sequence):
+    """Return the effect of the sequence, by the words of the document alone."""
+    return tuple(place_after(system, state, sequence) for state in chosen_in(system))
+
+
 def pairs_reached(system, one, other):
     """Return the set of the pairs to which a sequence leads from both states, found without sequences."""
     found = {(one, other)}
@@ -145,6 +168,12 @@ def pairs_reached(system, one, other):
         if more == found:
             return found
         found = more
+
+
+def keeps(system, state, command):
+    """Tell whether the action is revocable."""
+    found = pairs_reached(system, system[2][command][state], state)
+    return len(found) == len({first for first, _ in found})
 
 
 def seconds_reached(system, one, other):

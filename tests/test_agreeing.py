@@ -4,8 +4,8 @@ import itertools
 import unittest
 
 from cases import ALONE, CARDS, EXAMPLE, LADDER, NO_NUMBERS, NO_SEQUENCES, NO_SYSTEMS, PLACE, RING, WIDEST
-from cases import ArgumentCase, mixed_systems, permutation_systems, place_after, sequences_by_length, small_systems
-from cases import states_reached
+from cases import ArgumentCase, chosen_in, mixed_systems, permutation_systems, place_after, sequences_by_length
+from cases import small_systems
 from undobystate.agreeing import accepts_merged, agree, difference, exchanged, inverse, merged, one_to_one
 from undobystate.errors import NotPossible
 
@@ -14,11 +14,6 @@ MERGING = (8, 0, ((1, 2, 3, 3, 2, 6, 5, 6), (5, 1, 2, 3, 4, 0, 5, 7), (4, 1, 2, 
 
 SYSTEMS = [EXAMPLE, PLACE, CARDS, LADDER, RING, ALONE, WIDEST, MERGING, (8, 3, ()), (1, 0, ((0,),) * 4)]
 ALL = SYSTEMS + small_systems() + mixed_systems(60) + permutation_systems(80)
-
-
-def chosen_in(system):
-    """Return the ascending list of the reachable states."""
-    return sorted(states_reached(system, system[1]))
 
 
 class AgreeTest(unittest.TestCase):

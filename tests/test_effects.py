@@ -3,42 +3,18 @@
 import itertools
 import unittest
 
-from cases import ALONE, CARDS, EXAMPLE, LADDER, NO_SEQUENCES, NO_SYSTEMS, PLACE, RING
-from cases import ArgumentCase, effects_reached, mixed_systems, permutation_systems, place_after, regular_systems
-from cases import sequences_by_length, small_systems, states_reached
+from cases import ALL_MAPS, ALONE, CARDS, EXAMPLE, FIVE, LADDER, MORE, NO_SEQUENCES, NO_SYSTEMS, PLACE, RING, SIX, STOP
+from cases import ArgumentCase, chosen_in, effect_of, effects_reached, mixed_systems, permutation_systems
+from cases import place_after, regular_systems, sequences_by_length, small_systems
 from undobystate.effects import count_effects, effect_system, first_sequences, have_same_effect
 from undobystate.errors import TooLarge
 from undobystate.groups import is_regular
-
-STOP = (3, 0, ((1, 1, 1), (2, 2, 2)))
-
-# All permutations of five states are effects, 120 of them.
-FIVE = (5, 0, ((1, 2, 3, 4, 0), (1, 0, 2, 3, 4)))
-
-# Five effects more, each of which leads from every state to one.
-MORE = (5, 0, (*FIVE[2], (0, 0, 0, 0, 0)))
-
-# All permutations of six states: 720.
-SIX = (6, 0, ((1, 2, 3, 4, 5, 0), (1, 0, 2, 3, 4, 5)))
-
-# Every map of eight states to themselves is an effect, more than 16 million.
-ALL_MAPS = (8, 0, ((1, 2, 3, 4, 5, 6, 7, 0), (1, 0, 2, 3, 4, 5, 6, 7), (0, 0, 2, 3, 4, 5, 6, 7)))
 
 # The last one of the 83 first sequences has 17 commands.
 LONG = (5, 0, ((1, 1, 3, 3, 1), (2, 0, 1, 4, 3)))
 
 SYSTEMS = [EXAMPLE, PLACE, CARDS, LADDER, RING, ALONE, STOP, FIVE, LONG, (8, 3, ()), (1, 0, ((0,),) * 4)]
 ALL = SYSTEMS + small_systems() + mixed_systems(60) + permutation_systems(100) + regular_systems()
-
-
-def chosen_in(system):
-    """Return the ascending list of the reachable states."""
-    return sorted(states_reached(system, system[1]))
-
-
-def effect_of(system, sequence):
-    """Return the effect of the sequence, by the words of the document alone."""
-    return tuple(place_after(system, state, sequence) for state in chosen_in(system))
 
 
 class CountTest(unittest.TestCase):

@@ -93,17 +93,43 @@ FORGETTING = """
 (True, True, False)
 """
 
-# Without the calls of functions that are not built yet.
-EFFECTS = """
+EXTENSIONS = """
 >>> from undobystate.effects import count_effects, effect_system, first_sequences, have_same_effect
+>>> from undobystate.extensions import accepts_apart, accepts_extension, accepts_remembering, least_states, remembering_evidence
 >>> place = (3, 0, ((1, 0, 2), (0, 2, 1)))
->>> count_effects(place), first_sequences(place), have_same_effect(place, (0, 1, 0), (1, 0, 1))
-(6, [(), (0,), (1,), (0, 1), (1, 0), (0, 1, 0)], True)
+>>> count_effects(place), first_sequences(place), have_same_effect(place, (0, 1, 0), (1, 0, 1)), least_states(place)
+(6, [(), (0,), (1,), (0, 1), (1, 0), (0, 1, 0)], True, 6)
 >>> effect_system(place)
 ((6, 0, ((1, 0, 4, 5, 2, 3), (2, 3, 0, 1, 5, 4))), (0, 1, 0, 2, 1, 2))
+>>> accepts_extension(place, effect_system(place)), accepts_extension(place, (place, (0, 1, 2))), accepts_apart(place, ((), (0,), (1,))), accepts_apart(place, ((), (0, 0)))
+(True, True, True, False)
+>>> remembering_evidence(place)[0], accepts_remembering(place, ("extension", effect_system(place))), accepts_remembering(place, ("extension", (place, (0, 1, 2))))
+('extension', True, False)
 >>> stop = (3, 0, ((1, 1, 1), (2, 2, 2)))
->>> count_effects(stop)
-3
+>>> least_states(stop) is None, count_effects(stop), accepts_remembering(stop, ("merge", (0, (), (0,)))), accepts_remembering(stop, ("merge", (0, (0,), (0, 0))))
+(True, 3, True, False)
+"""
+
+WITHDRAWING = """
+>>> from undobystate.withdrawing import accepts_maximal, fewest, is_enough, maximal, maximal_evidence, system_with
+>>> place = (3, 0, ((1, 0, 2), (0, 2, 1)))
+>>> is_enough(place, (0,)), is_enough(place, (0, 1)), maximal(place), fewest(place), system_with(place, (1,))
+(True, False, [(0,), (1,)], (1,), (3, 0, ((0, 2, 1),)))
+>>> accepts_maximal(place, (0,), (((0, 1), (1, 0)), (("refutation", 0, (0,), (0, 1)),))), accepts_maximal(place, (0,), maximal_evidence(place, (0,)))
+(True, True)
+>>> maximal_evidence(place, ()) is None, maximal_evidence(place, (0, 1)) is None, accepts_maximal(place, (), (((0,),), ())), maximal((2, 0, ((1, 1), (1, 0)))), fewest((2, 0, ()))
+(True, True, False, [(1,)], ())
+"""
+
+COMPARING = """
+>>> from undobystate.comparing import accepts_map, accepts_split, are_alike, told_form, told_map, told_split
+>>> place, cards = (3, 0, ((1, 0, 2), (0, 2, 1))), (6, 0, ((1, 0, 4, 5, 2, 3), (2, 3, 0, 1, 5, 4)))
+>>> told_map(cards, place), told_map(place, cards) is None, told_split(place, cards), told_split(cards, place) is None
+((0, 1, 0, 2, 1, 2), True, ((), (1,)), True)
+>>> accepts_map(cards, place, (0, 1, 0, 2, 1, 2)), accepts_map(cards, place, (0, 1, 0, 2, 1, None)), accepts_split(place, cards, ((), (0, 0, 1)))
+(True, False, True)
+>>> told_form((4, 2, ((0, 3, 1, 3),))), are_alike((4, 2, ((0, 3, 1, 3),)), (3, 0, ((1, 2, 2),))), are_alike(place, cards)
+((3, 0, ((1, 2, 2),)), True, False)
 """
 
 
@@ -134,8 +160,14 @@ class ExamplesTest(unittest.TestCase):
     def test_forgetting(self):
         self.assert_examples(FORGETTING, "forgetting")
 
-    def test_effects(self):
-        self.assert_examples(EFFECTS, "effects")
+    def test_effects_and_extensions(self):
+        self.assert_examples(EXTENSIONS, "extensions")
+
+    def test_withdrawing(self):
+        self.assert_examples(WITHDRAWING, "withdrawing")
+
+    def test_comparing(self):
+        self.assert_examples(COMPARING, "comparing")
 
     def test_readme(self):
         with open(README, encoding="utf-8") as file:

@@ -4,8 +4,8 @@ import itertools
 import unittest
 
 from cases import ALONE, CARDS, EXAMPLE, LADDER, NO_NUMBERS, NO_SYSTEMS, PLACE, RING, WIDEST
-from cases import ArgumentCase, mixed_systems, pairs_reached, permutation_systems, place_after, regular_systems
-from cases import renamed, sequences_by_length, shuffled, small_systems, states_reached, taken_out
+from cases import ArgumentCase, chosen_in, mixed_systems, pairs_reached, permutation_systems, place_after
+from cases import regular_systems, renamed, sequences_by_length, shuffled, small_systems, states_reached, taken_out
 from undobystate.forgetting import accepts_blocks, accepts_joins, finest, joins, quotient
 from undobystate.groups import is_regular
 from undobystate.systems import is_system
@@ -25,11 +25,6 @@ SYSTEMS = [EXAMPLE, PLACE, CARDS, LADDER, RING, ALONE, WIDEST, TURN, TAIL, NEIGH
            (1, 0, ((0,),) * 4)]
 ALL = SYSTEMS + small_systems() + mixed_systems(60) + permutation_systems(100) + regular_systems()
 SMALL = [system for system in ALL + mixed_systems(200) if len(states_reached(system, system[1])) <= 4]
-
-
-def chosen_in(system):
-    """Return the ascending list of the reachable states."""
-    return sorted(states_reached(system, system[1]))
 
 
 def asked_pairs(system):

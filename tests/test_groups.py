@@ -4,9 +4,9 @@ import itertools
 import unittest
 
 from cases import ALONE, CARDS, EXAMPLE, LADDER, NO_NUMBERS, NO_SEQUENCES, NO_SYSTEMS, PLACE, RING, WIDEST
-from cases import ArgumentCase, actions_in, effects_reached, first_refutation, mixed_systems, pairs_reached
+from cases import ArgumentCase, actions_in, chosen_in, effects_reached, first_refutation, keeps, mixed_systems
 from cases import permutation_systems, place_after, regular_systems, renamed, sequences_by_length, shuffled
-from cases import small_systems, states_reached, taken_out
+from cases import small_systems, taken_out
 from undobystate.actions import told_refutation
 from undobystate.errors import NotPossible
 from undobystate.groups import accepts_group, factor, failing, group_evidence, inverse, is_regular, product, products
@@ -19,17 +19,6 @@ INNER = (8, 4, ((0, 0, 4, 7, 5, 2, 6, 1), (3, 3, 5, 3, 2, 4, 3, 3)))
 
 SYSTEMS = [EXAMPLE, PLACE, CARDS, LADDER, RING, ALONE, WIDEST, MIXED, INNER, (8, 3, ()), (1, 0, ((0,),) * 4)]
 ALL = SYSTEMS + small_systems() + mixed_systems(100) + permutation_systems(120) + regular_systems()
-
-
-def chosen_in(system):
-    """Return the ascending list of the reachable states."""
-    return sorted(states_reached(system, system[1]))
-
-
-def keeps(system, state, command):
-    """Tell whether the action is revocable."""
-    found = pairs_reached(system, system[2][command][state], state)
-    return len(found) == len({first for first, _ in found})
 
 
 def regular_ones(systems):

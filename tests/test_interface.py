@@ -79,6 +79,32 @@ FUNCTIONS = {
         "have_same_effect": ["system", "one", "other"],
         "effect_system": ["system"],
     },
+    "undobystate.extensions": {
+        "least_states": ["system"],
+        "accepts_extension": ["system", "value"],
+        "accepts_apart": ["system", "value"],
+        "remembering_evidence": ["system"],
+        "accepts_remembering": ["system", "value"],
+    },
+    "undobystate.withdrawing": {
+        "system_with": ["system", "chosen"],
+        "is_enough": ["system", "chosen"],
+        "maximal": ["system"],
+        "fewest": ["system"],
+        "maximal_evidence": ["system", "chosen"],
+        "accepts_maximal": ["system", "chosen", "value"],
+    },
+    "undobystate.comparing": {
+        "told_map": ["first", "second"],
+        "accepts_map": ["first", "second", "value"],
+        "told_split": ["first", "second"],
+        "accepts_split": ["first", "second", "value"],
+        "are_alike": ["first", "second"],
+        "told_form": ["system"],
+    },
+    "undobystate.scanning": {
+        "scan": ["text"],
+    },
 }
 
 CLASSES = {

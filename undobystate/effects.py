@@ -6,9 +6,14 @@ The effect of a sequence is the tuple of the states to which it leads from the r
 from undobystate.agreeing import least_difference
 from undobystate.errors import TooLarge
 from undobystate.reach import reachable, reached_from, tuples_from
-from undobystate.systems import all_after, check_sequence, check_system
+from undobystate.systems import all_after, check_sequence, check_system, follow
 
 MOST_EFFECTS = 120
+
+
+def effect_of(system, sequence):
+    """Return the effect of the sequence, without checks."""
+    return tuple([follow(system, state, sequence) for state in reached_from(system, system[1])])
 
 
 def effects_of(system):

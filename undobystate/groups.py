@@ -10,11 +10,16 @@ from undobystate.systems import after, all_after, check_command, check_sequence,
 from undobystate.systems import is_command, is_index_tuple, is_tuple_of
 
 
+def failing_in(system):
+    """Return the ascending tuple of the commands whose action in the start is not revocable, without checks."""
+    start = system[1]
+    return tuple([command for command, row in enumerate(system[2]) if not determines(system, row[start], start)])
+
+
 def failing(system):
     """Return the ascending tuple of the commands whose action in the start is not revocable."""
     check_system(system)
-    start = system[1]
-    return tuple([command for command, row in enumerate(system[2]) if not determines(system, row[start], start)])
+    return failing_in(system)
 
 
 def is_regular(system):

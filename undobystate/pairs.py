@@ -37,7 +37,8 @@ def have_one_second_each(pairs):
 
 def determines(system, one, other):
     """Tell whether each state has at most one counterpart."""
-    return have_one_second_each(pairs_from(system, one, other))
+    # Of more pairs than states two have the same first one, so no more of them have to be found.
+    return have_one_second_each(tuples_from(system, (one, other), system[0]))
 
 
 def table_from(system, one, other):
@@ -48,17 +49,30 @@ def table_from(system, one, other):
     return tuple([seconds[0] if seconds else None for seconds in beside])
 
 
-def is_table(system, value):
-    """Tell whether the value is a tuple with a state or None for each state."""
-    return is_tuple_of(value, system[0]) and all(entry is None or is_state(system, entry) for entry in value)
+def are_kept(system, target, chosen, entries):
+    """Tell whether, from each chosen state, each command leads to one whose entry is where it leads from the entry.
+
+    Entries are states of the target, a system with as many commands; those of the chosen states are not None.
+    """
+    return all(entries[row[state]] == led[entries[state]] for row, led in zip(system[2], target[2]) for state in chosen)
+
+
+def is_table_into(system, target, value):
+    """Tell whether the value is a tuple with a state of the target or None for each state of the system."""
+    return is_tuple_of(value, system[0]) and all(entry is None or is_state(target, entry) for entry in value)
+
+
+def is_kept_table(system, target, one, other, value):
+    """Tell whether the value is a table into the target that has other for one, and that every command keeps."""
+    if not is_table_into(system, target, value) or value[one] != other:
+        return False
+    chosen = [state for state in range(system[0]) if value[state] is not None]
+    return are_kept(system, target, chosen, value)
 
 
 def is_table_from(system, one, other, value):
     """Tell whether the value is a table that has other for one, and that every command keeps."""
-    if not is_table(system, value) or value[one] != other:
-        return False
-    chosen = [state for state in range(system[0]) if value[state] is not None]
-    return all(value[row[state]] == row[value[state]] for row in system[2] for state in chosen)
+    return is_kept_table(system, system, one, other, value)
 
 
 def refutation_from(system, one, other):

@@ -41,18 +41,23 @@ def is_command_row(value, states):
     return is_index_tuple(value, states) and len(value) == states
 
 
-def is_system(value):
-    """Tell whether the value is a system."""
+def is_system_within(value, most):
+    """Tell whether the value is written as a system, with at most so many states."""
     if not is_tuple_of(value, 3):
         return False
     states, start, commands = value
-    if not is_integer(states) or not 1 <= states <= MOST_STATES:
+    if not is_integer(states) or not 1 <= states <= most:
         return False
     if not is_index(start, states):
         return False
     if not isinstance(commands, tuple) or len(commands) > MOST_COMMANDS:
         return False
     return all(is_command_row(row, states) for row in commands)
+
+
+def is_system(value):
+    """Tell whether the value is a system."""
+    return is_system_within(value, MOST_STATES)
 
 
 def is_state(system, value):
@@ -75,10 +80,10 @@ def is_sequence(system, value):
     return is_sequence_within(system, value, MOST_IN_SEQUENCE)
 
 
-def check_system(system):
-    """Raise BadValue if the argument is not a system."""
-    if not is_system(system):
-        raise BadValue("system")
+def check_system(value, name="system"):
+    """Raise BadValue with the name of the argument if it is not a system."""
+    if not is_system(value):
+        raise BadValue(name)
 
 
 def check_state(system, value, name):

@@ -3,7 +3,7 @@
 import itertools
 import unittest
 
-from undobystate.errors import BadValue, UndoError
+from undobystate.errors import BadValue, TextError, UndoError
 
 # The example of the document's chapter on systems: the state 2 is not reachable.
 EXAMPLE = (3, 0, ((1, 0, 2), (1, 1, 0)))
@@ -50,6 +50,26 @@ NO_SYSTEMS = NO_TUPLES + [
 # In the place of a sequence of 0 to 16 commands, for whatever system has a command.
 NO_SEQUENCES = NO_TUPLES + [(True,), (False,), (None,), ("0",), ((0,),), ([0],), (-1,), (4,), (0, 4), (0,) * 17]
 
+# In the place of a text.
+NO_TEXTS = [None, True, False, 0, 1, -1, 0.5, [], ["a"], (), ("a",), {}, {"a": 1}, b"", b"a", b"3 start 0", {"a"},
+            "a\n", "\n", "\na", "3 start\n0", "ab\ncd", "?\n", "1234567\n", "a" * 301, " " * 301, "?" * 301,
+            "1" * 1000, "\n" * 301]
+
+# In the place of an operation of an editor, for whatever system has a command.
+NO_OPERATIONS = NO_TUPLES + [
+    (), ("execute",), ("execute", 0, 0), ["execute", 0], ("execute", True), ("execute", False), ("execute", None),
+    ("execute", "0"), ("execute", -1), ("execute", 4), ("execute", (0,)), ("execute", [0]), ("execute", 0.0),
+    ("revoke",), ("revoke", 0, 0), ["revoke", 0], ("revoke", True), ("revoke", False), ("revoke", None),
+    ("revoke", "0"), ("revoke", -1), ("revoke", 16), ("revoke", (0,)), ("restore",), ("restore", 0, 0), ["restore", 0],
+    ("restore", True), ("restore", False), ("restore", None), ("restore", "0"), ("restore", -1), ("restore", 16),
+    ("restore", [0]),
+    ("undo", 0), ("Execute", 0), ("executed", 0), ("", 0), (None, 0), (True, 0), (0, "execute"), (("execute",), 0),
+    (["execute"], 0), (b"execute", 0), "execute", (("execute", 0),)]
+
+# The words of the problems of tokens.
+NO_TOKEN = "no token begins here"
+LONG_NUMBER = "a number has at most 6 digits"
+
 
 class ArgumentCase(unittest.TestCase):
     """A test case that asks which argument an error names."""
@@ -81,6 +101,17 @@ class ArgumentCase(unittest.TestCase):
         for wrong in spoiled(value):
             with self.subTest(value=value, wrong=wrong):
                 self.assertIs(judge(wrong), False)
+
+
+class TextCase(ArgumentCase):
+    """A test case that asks where a text has a problem, and which one."""
+
+    def assert_text_error(self, column, words, function, *arguments):
+        with self.subTest(function=function.__name__, arguments=arguments):
+            with self.assertRaises(TextError) as caught:
+                function(*arguments)
+            self.assertEqual((caught.exception.column, caught.exception.words), (column, words))
+            self.assertIsInstance(caught.exception, UndoError)
 
 
 def spoiled(value):
@@ -297,6 +328,67 @@ def effects_reached(system, most):
     return told
 
 
+def operations_of(system):
+    """Return the list of all operations, possible or not."""
+    changes = [(word, entry) for word in ("revoke", "restore") for entry in range(16)]
+    return [("execute", command) for command in range(len(system[2]))] + changes
+
+
+def entries_told(journal):
+    """Return the list of the entries behind possible operations, a list of command and True or False each."""
+    entries = []
+    for word, number in journal:
+        if word == "execute":
+            entries.append([number, True])
+        else:
+            entries[number][1] = word == "restore"
+    return entries
+
+
+def state_told(system, entries):
+    """Return the state to which the commands in effect lead from the start."""
+    return place_after(system, system[1], [command for command, in_effect in entries if in_effect])
+
+
+def why_not_told(entries, operation):
+    """Return why the operation is not possible, or None, by the words of point 120 alone."""
+    word, number = operation
+    if word == "execute":
+        return None if len(entries) < 16 else "full"
+    if number not in range(len(entries)):
+        return "missing"
+    if word == "revoke":
+        return "revoked" if not entries[number][1] else None
+    return "effect" if entries[number][1] else None
+
+
 def taken_out(system, command):
     """Return the system without the command."""
     return (system[0], system[1], system[2][:command] + system[2][command + 1:])
+
+
+def scanned_by_words(text):
+    """Return the tokens, or the column and the words of the first problem, by trying each kind at each place."""
+    tokens = []
+    at = 0
+    while at < len(text):
+        rest = text[at:]
+        digits = "".join(itertools.takewhile(lambda character: character in list("0123456789"), rest))
+        if rest.startswith(" "):
+            at += 1
+            continue
+        if len(digits) > 6:
+            return (at + 1, LONG_NUMBER)
+        if digits:
+            token = ("number", digits, at + 1)
+        elif rest[0] in list("abcd"):
+            token = ("letter", rest[0], at + 1)
+        elif rest[0] == ";":
+            token = ("sign", ";", at + 1)
+        elif rest.startswith("start"):
+            token = ("word", "start", at + 1)
+        else:
+            return (at + 1, NO_TOKEN)
+        tokens.append(token)
+        at += len(token[1])
+    return tokens + [("end", "", len(text) + 1)]

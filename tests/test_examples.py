@@ -4,6 +4,9 @@ import doctest
 import os
 import unittest
 
+from undobystate.errors import TextError
+from undobystate.reading import read_system
+
 README = os.path.join(os.path.dirname(os.path.dirname(os.path.abspath(__file__))), "README.md")
 
 AGREEING = """
@@ -132,14 +135,48 @@ COMPARING = """
 ((3, 0, ((1, 2, 2),)), True, False)
 """
 
+WRITING = """
+>>> from undobystate.reading import next_tokens, read_sequence, read_system
+>>> from undobystate.writing import sequence_text, system_text
+>>> system = read_system("3 start 0; a 1 0 2; b 1 1 0")
+>>> system, read_sequence(system, "ab b"), read_system("1 start 0")
+((3, 0, ((1, 0, 2), (1, 1, 0))), (0, 1, 1), (1, 0, ()))
+>>> system_text(system), sequence_text(system, (1, 0)), sequence_text(system, ())
+('3 start 0; a 1 0 2; b 1 1 0', 'ba', '')
+>>> next_tokens("3", "system"), next_tokens("3 start 0", "system"), next_tokens("3 start 0; a", "system"), next_tokens("", "sequence")
+(['"start"'], ['";"', 'the end'], ['a number', '";"', 'the end'], ['a letter', 'the end'])
+
+>>> from undobystate.reading import read_system
+>>> read_system("2 start 0; a 1; b 0 0")
+raises TextError
+"""
+
+JOURNALS = """
+>>> from undobystate.editor import Editor
+>>> from undobystate.journals import are_right, replayed
+>>> editor = Editor((3, 0, ((1, 2, 0),)))
+>>> editor.act(("execute", 0)), editor.act(("execute", 0)), editor.act(("execute", 0)), editor.revocable(), editor.table(1), editor.without(1)
+(1, 2, 0, (0, 1, 2), (2, 0, 1), 2)
+>>> editor.act(("revoke", 1)), editor.entries(), editor.states(), editor.revocable(), editor.table(1) is None, editor.without(1)
+(2, ((0, True), (0, False), (0, True)), (0, 1, 2), (0, 2), True, 2)
+>>> editor.act(("restore", 1)), editor.undo(), editor.state(), editor.records()[-1]
+(0, ('restore', 1), 2, (('revoke', 1), 2))
+>>> place = (3, 0, ((1, 0, 2), (0, 2, 1)))
+>>> replayed(place, (("execute", 0), ("execute", 1))).revocable(), are_right(place, ((("execute", 0), 1), (("execute", 1), 2), (("revoke", 0), 0)))
+((), True)
+"""
+
 
 class ExamplesTest(unittest.TestCase):
 
     def assert_examples(self, text, name):
+        # The document says which error is raised, and leaves the wording free.
+        text = text.replace("raises TextError", "Traceback (most recent call last):\nTextError: in whatever words")
         test = doctest.DocTestParser().get_doctest(text, {}, name, None, None)
         self.assertGreater(len(test.examples), 2)
         told = []
-        doctest.DocTestRunner(verbose=False).run(test, out=told.append)
+        runner = doctest.DocTestRunner(verbose=False, optionflags=doctest.IGNORE_EXCEPTION_DETAIL)
+        runner.run(test, out=told.append)
         self.assertEqual("".join(told), "")
 
     def test_agreeing(self):
@@ -168,6 +205,20 @@ class ExamplesTest(unittest.TestCase):
 
     def test_comparing(self):
         self.assert_examples(COMPARING, "comparing")
+
+    def test_reading_and_writing(self):
+        self.assert_examples(WRITING, "writing")
+        with self.assertRaises(TextError) as caught:
+            read_system("2 start 0; a 1; b 0 0")
+        self.assertEqual((caught.exception.column, caught.exception.words), (15, "a state is missing"))
+
+    def test_editors_and_journals(self):
+        self.assert_examples(JOURNALS, "journals")
+
+    def test_an_example_that_is_wrong_is_found(self):
+        for text in ("1\n", "raises TextError\n"):
+            with self.assertRaises(AssertionError):
+                self.assert_examples(">>> 1\n1\n>>> 2\n2\n>>> 2\n" + text, "wrong")
 
     def test_readme(self):
         with open(README, encoding="utf-8") as file:

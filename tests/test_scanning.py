@@ -3,57 +3,17 @@
 import itertools
 import unittest
 
-from cases import ArgumentCase
-from undobystate.errors import TextError, UndoError
+from cases import LONG_NUMBER, NO_TEXTS, NO_TOKEN, TextCase, scanned_by_words
 from undobystate.scanning import scan
 
-NO_TOKEN = "no token begins here"
-LONG_NUMBER = "a number has at most 6 digits"
 
-# In the place of a text.
-NO_TEXTS = [None, True, False, 0, 1, -1, 0.5, [], ["a"], (), ("a",), {}, {"a": 1}, b"", b"a", b"3 start 0", {"a"},
-            "a\n", "\n", "\na", "3 start\n0", "ab\ncd", "?\n", "1234567\n", "a" * 301, " " * 301, "?" * 301,
-            "1" * 1000, "\n" * 301]
-
-
-def scanned_by_words(text):
-    """Return the tokens, or the column and the words of the first problem, by trying each kind at each place."""
-    tokens = []
-    at = 0
-    while at < len(text):
-        rest = text[at:]
-        digits = "".join(itertools.takewhile(lambda character: character in list("0123456789"), rest))
-        if rest.startswith(" "):
-            at += 1
-            continue
-        if len(digits) > 6:
-            return (at + 1, LONG_NUMBER)
-        if digits:
-            token = ("number", digits, at + 1)
-        elif rest[0] in list("abcd"):
-            token = ("letter", rest[0], at + 1)
-        elif rest[0] == ";":
-            token = ("sign", ";", at + 1)
-        elif rest.startswith("start"):
-            token = ("word", "start", at + 1)
-        else:
-            return (at + 1, NO_TOKEN)
-        tokens.append(token)
-        at += len(token[1])
-    return tokens + [("end", "", len(text) + 1)]
-
-
-class TextCase(ArgumentCase):
+class ScanCase(TextCase):
 
     def assert_problem(self, text, column, words):
-        with self.subTest(text=text):
-            with self.assertRaises(TextError) as caught:
-                scan(text)
-            self.assertEqual((caught.exception.column, caught.exception.words), (column, words))
-            self.assertIsInstance(caught.exception, UndoError)
+        self.assert_text_error(column, words, scan, text)
 
 
-class ScanTest(TextCase):
+class ScanTest(ScanCase):
 
     def test_an_ordinary_text(self):
         self.assertEqual(scan("3 start 0; a 1 0 2"), [
@@ -163,13 +123,13 @@ class ScanTest(TextCase):
             self.assert_problem(text, 1, NO_TOKEN)
 
 
-class WrongArgumentTest(TextCase):
+class WrongArgumentTest(ScanCase):
 
     def test_text(self):
         self.assert_checked(scan, ("a",), [("text", NO_TEXTS)])
 
 
-class SameCallTest(TextCase):
+class SameCallTest(ScanCase):
 
     def test_a_new_list_with_each_call(self):
         told = scan("ab")
